@@ -1,0 +1,1 @@
+"""Echohall: machines whose pile goes by the letters alone."""
