@@ -64,3 +64,15 @@ def way_of(move):
 def is_one_way(machine):
     ways = [way_of(move) for move in machine[5]]
     return len(machine[3]) == 1 and len(set(ways)) == len(ways)
+
+
+def built(sheet, rooms, marks, firsts, lasts, moves):
+    """The machine of these parts, each sorted, with nothing in it twice."""
+    return (
+        sheet,
+        rooms,
+        marks,
+        tuple(sorted(set(firsts))),
+        tuple(sorted(set(lasts))),
+        tuple(sorted(set(moves))),
+    )

@@ -130,3 +130,90 @@ def refused(test, kind, function, *handed, **named):
     test.assertIs(type(caught.exception), kind)
     test.assertEqual(before, handed)
     return caught.exception
+
+
+def plain_answer_places(sheet, word):
+    """For each place of a shut word the place of its open, or of its close."""
+    told, waiting = {}, []
+    for place, letter in enumerate(word):
+        if letter in sheet[0]:
+            waiting.append(place)
+        elif letter in sheet[2]:
+            told[place] = waiting.pop()
+            told[told[place]] = place
+    return told
+
+
+def plain_is_walk(machine, word, moves):
+    """Point 8, word for word."""
+    sheet, rooms, marks, firsts, lasts, known = machine
+    if len(moves) != len(word):
+        return False
+    if not word:
+        return bool(set(firsts) & set(lasts))
+    told = plain_answer_places(sheet, word)
+    room = None
+    for place, (letter, move) in enumerate(zip(word, moves)):
+        if move not in known:
+            return False
+        if room is None and move[1] not in firsts or room is not None and move[1] != room:
+            return False
+        if letter not in move:
+            return False
+        if move[0] == "close" and moves[told[place]][3] != move[2]:
+            return False
+        room = move[-1]
+    return room in lasts
+
+
+def plain_shows_bar(machine, word, lists):
+    """Point 9, word for word."""
+    sheet, rooms, marks, firsts, lasts, known = machine
+    if len(lists) != len(word) + 1:
+        return False
+    told = plain_answer_places(sheet, word)
+    wanted = [(0, (p, p)) for p in firsts]
+    for k, letter in enumerate(word):
+        for o, p in lists[k]:
+            for move in known:
+                if move[:3] == ("plain", p, letter):
+                    wanted.append((k + 1, (o, move[3])))
+                if move[:3] == ("open", p, letter):
+                    wanted.append((k + 1, (move[4], move[4])))
+        if letter in sheet[2]:
+            j = told[k]
+            begins = [move for move in known if move[0] == "open" and move[2] == word[j]]
+            ends = [move for move in known if move[0] == "close" and move[3] == letter]
+            for begin in begins:
+                for end in ends:
+                    if begin[3] == end[2] and (begin[4], end[1]) in lists[k]:
+                        wanted += [(k + 1, (o, end[4])) for o, p in lists[j] if p == begin[1]]
+    if any(p in lasts for o, p in lists[-1]):
+        return False
+    return all(pair in lists[k] for k, pair in wanted)
+
+
+def is_shaped_move(machine, move):
+    sheet, rooms, marks = machine[:3]
+    if not isinstance(move, tuple) or any(isinstance(part, bool) for part in move):
+        return False
+    numbers, inside = range(marks), range(rooms)
+    if move[0] == "plain":
+        kind, p, b, q = move
+        return p in inside and b in sheet[1] and q in inside
+    if move[0] == "open":
+        kind, p, a, m, q = move
+        return p in inside and a in sheet[0] and m in numbers and q in inside
+    kind, p, m, c, q = move
+    return kind == "close" and p in inside and m in numbers and c in sheet[2] and q in inside
+
+
+def is_shaped(machine):
+    """Point 7, but for how many rooms, marks and moves there may be."""
+    sheet, rooms, marks, firsts, lasts, moves = machine
+    for row in (firsts, lasts, moves):
+        if not isinstance(row, tuple) or any(not one < other for one, other in zip(row, row[1:])):
+            return False
+    if not isinstance(machine, tuple) or not firsts or rooms < 1 or marks < 0:
+        return False
+    return all(room in range(rooms) for room in firsts + lasts) and all(is_shaped_move(machine, m) for m in moves)

@@ -75,6 +75,8 @@ class Machines(unittest.TestCase):
     def test_moves_of_another_form(self):
         for move in (
             ("shut", 0, "b", 0),
+            ("shut", 0, "a", 0, 0),
+            ("shut", 0, 0, "c", 0),
             ("Plain", 0, "b", 0),
             ("plain", 0, "b"),
             ("plain", 0, "b", 0, 0),
