@@ -116,7 +116,8 @@ def in_row(one, other):
     need_one_sheet(one, other)
     rooms = shift(other[1], one[1])
     # Other marks for the other: so it takes none that the one has left, and goes on only where the one is shut.
-    behind = [renamed(move, rooms, shift(other[2], one[2])) for move in other[5]]
+    marks = shift(other[2], one[2])
+    behind = [renamed(move, rooms, marks) for move in other[5]]
     firsts = [rooms[room] for room in other[3]]
     lasts = [rooms[room] for room in other[4]]
     moves = list(one[5]) + behind + beginnings(behind, firsts, one[4])
@@ -128,7 +129,8 @@ def in_row(one, other):
 def again(machine):
     sheet, rooms, marks, firsts, lasts, moves = machine
     # A word may begin anew only where no open waits, so such rooms and marks are told apart from those within.
-    within = [renamed(move, shift(rooms, rooms), shift(marks, marks)) for move in moves]
+    inner, others = shift(rooms, rooms), shift(marks, marks)
+    within = [renamed(move, inner, others) for move in moves]
     level = [outermost(move, rooms) for move in moves]
     start = 2 * rooms
     ends = list(lasts) + [start]
