@@ -76,3 +76,12 @@ def built(sheet, rooms, marks, firsts, lasts, moves):
         tuple(sorted(set(lasts))),
         tuple(sorted(set(moves))),
     )
+
+
+def machine_of_all(sheet):
+    """The machine of one room that lets by all shut words."""
+    opens, plains, closes = sheet
+    moves = [("open", 0, a, 0, 0) for a in opens]
+    moves += [("plain", 0, b, 0) for b in plains]
+    moves += [("close", 0, 0, c, 0) for c in closes]
+    return built(sheet, 1, 1, [0], [0], moves)

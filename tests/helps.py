@@ -217,3 +217,103 @@ def is_shaped(machine):
     if not isinstance(machine, tuple) or not firsts or rooms < 1 or marks < 0:
         return False
     return all(room in range(rooms) for room in firsts + lasts) and all(is_shaped_move(machine, m) for m in moves)
+
+
+def word_key(sheet, word):
+    """By this the order of words is the order of Python."""
+    letters = sheet[0] + sheet[1] + sheet[2]
+    return (len(word), [letters.index(letter) for letter in word])
+
+
+def in_order(sheet, words):
+    return sorted(words, key=lambda word: word_key(sheet, word))
+
+
+def plain_stretch(machine, word):
+    """All pairs of rooms between which a shut word leads, by all piles that there can be."""
+    pairs = []
+    for p in range(machine[1]):
+        begun = machine[:3] + ((p,),) + machine[4:]
+        pairs += sorted({(p, room) for room, pile in configs(begun, word)})
+    return tuple(pairs)
+
+
+def plain_leasts(machine):
+    """The least word between each two rooms: all words are put together until none gets lesser."""
+    sheet, rooms, marks, firsts, lasts, moves = machine
+    key = lambda word: word_key(sheet, word)
+    found = {(p, p): [] for p in range(rooms)}
+    changed = True
+    while changed:
+        changed = False
+        parts = {}
+        for move in moves:
+            if move[0] == "plain":
+                parts.setdefault((move[1], move[3]), []).append([move[2]])
+        for _, q, a, m, r in [move for move in moves if move[0] == "open"]:
+            for _, s, n, c, t in [move for move in moves if move[0] == "close"]:
+                if m == n and (r, s) in found:
+                    parts.setdefault((q, t), []).append([a] + found[(r, s)] + [c])
+        for (q, t), words in parts.items():
+            part = min(words, key=key)
+            for p in range(rooms):
+                if (p, q) in found:
+                    word = found[(p, q)] + part
+                    if (p, t) not in found or key(word) < key(found[(p, t)]):
+                        found[(p, t)] = word
+                        changed = True
+    return found
+
+
+def machine_of_plains(sheet, sizes, more):
+    """Lets by rows of the sheet's first plain: of how many letters is told by sizes, and from more on of any."""
+    b = sheet[1][0]
+    last = max(list(sizes) + [more or 0])
+    moves = [("plain", p, b, p + 1) for p in range(last)]
+    lasts = set(sizes)
+    if more is not None:
+        lasts.add(last)
+        moves.append(("plain", last, b, last))
+        lasts |= set(range(more, last))
+    return (sheet, last + 1, 0, (0,), tuple(sorted(lasts)), tuple(sorted(moves)))
+
+
+# A machine with few moves, between whose rooms the least words have hundreds of letters.
+WINDING = (
+    ONE,
+    6,
+    6,
+    (0,),
+    (5,),
+    (
+        ("close", 0, 2, "c", 4),
+        ("close", 0, 5, "c", 3),
+        ("close", 1, 1, "c", 0),
+        ("close", 1, 1, "c", 4),
+        ("close", 1, 3, "c", 0),
+        ("close", 1, 4, "c", 5),
+        ("close", 1, 5, "c", 4),
+        ("close", 2, 3, "c", 1),
+        ("close", 3, 0, "c", 2),
+        ("close", 3, 1, "c", 4),
+        ("close", 3, 3, "c", 4),
+        ("close", 3, 4, "c", 0),
+        ("close", 4, 3, "c", 0),
+        ("close", 5, 3, "c", 2),
+        ("open", 0, "a", 0, 1),
+        ("open", 0, "a", 5, 4),
+        ("open", 0, "a", 5, 5),
+        ("open", 1, "a", 0, 2),
+        ("open", 1, "a", 2, 3),
+        ("open", 1, "a", 4, 3),
+        ("open", 2, "a", 3, 5),
+        ("open", 3, "a", 5, 4),
+        ("open", 4, "a", 1, 5),
+        ("open", 4, "a", 3, 3),
+        ("open", 4, "a", 5, 2),
+        ("open", 5, "a", 1, 2),
+        ("open", 5, "a", 2, 1),
+        ("open", 5, "a", 2, 4),
+        ("open", 5, "a", 4, 0),
+    ),
+)
