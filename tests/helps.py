@@ -317,3 +317,75 @@ WINDING = (
         ("open", 5, "a", 4, 0),
     ),
 )
+
+
+# The telling of the machine that lets by an even number of plains and no pairs.
+EVEN_TOLD = (
+    ONE,
+    ((), ("b",), ("a", "c")),
+    (0,),
+    (1,),
+    ((0, 1, 2), (1, 0, 2), (2, 2, 2)),
+    (((2, 2, 2),),),
+)
+# The telling of the machine that lets by pairs of like place in the sheet alone: z with y, up with down.
+NAMED_TOLD = (
+    TWO,
+    ((), ("z", "down")),
+    (0,),
+    (0, 0),
+    ((0, 1), (1, 1)),
+    (((0, 1), (1, 1)), ((1, 1), (0, 1))),
+)
+
+
+def plain_written(great):
+    """The word that a great word of small counts writes."""
+    if great[0] == "word":
+        return list(great[1])
+    if great[0] == "row":
+        return [letter for part in great[1] for letter in plain_written(part)]
+    if great[0] == "again":
+        return [letter for _ in range(great[1]) for letter in plain_written(great[2])]
+    return [great[2]] * great[1] + plain_written(great[3]) + [great[4]] * great[1]
+
+
+def some_great(seed, sheet, deep=4, most=3):
+    """A great word made by a seed, with counts of at most so many."""
+    dice = random.Random(seed)
+    words = shut_words(sheet, 4)
+
+    def made(left):
+        form = dice.choice(("word", "row", "again", "wrap")) if left > 1 else "word"
+        if form == "word":
+            return ("word", tuple(dice.choice(words)))
+        if form == "row":
+            return ("row", tuple(made(left - 1) for _ in range(dice.randrange(4))))
+        many = dice.randrange(most + 1)
+        if form == "again":
+            return ("again", many, made(left - 1))
+        return ("wrap", many, dice.choice(sheet[0]), made(left - 1), dice.choice(sheet[2]))
+
+    return made(deep)
+
+
+def how_many_shut(sheet, n):
+    """How many shut words of n letters a sheet has."""
+    counts = [1]
+    for size in range(1, n + 1):
+        pairs = sum(counts[inner] * counts[size - 2 - inner] for inner in range(size - 1))
+        counts.append(len(sheet[1]) * counts[size - 1] + len(sheet[0]) * len(sheet[2]) * pairs)
+    return counts[n]
+
+
+def how_many_by_depth(sheet, n, deep):
+    """How many shut words of n letters are no deeper than so, letter by letter."""
+    now = {0: 1}
+    for _ in range(n):
+        behind = {}
+        for depth, many in now.items():
+            for more, ways in ((1, len(sheet[0])), (0, len(sheet[1])), (-1, len(sheet[2]))):
+                if 0 <= depth + more <= deep:
+                    behind[depth + more] = behind.get(depth + more, 0) + many * ways
+        now = behind
+    return now.get(0, 0)

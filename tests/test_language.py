@@ -136,7 +136,6 @@ class Language(unittest.TestCase):
             ast.Await,
             ast.Div,
             ast.MatMult,
-            ast.Pow,
             ast.Mod,
             ast.AnnAssign,
         )
@@ -149,6 +148,11 @@ class Language(unittest.TestCase):
                     if isinstance(sign, (ast.Is, ast.IsNot)):
                         self.assertIsInstance(right, ast.Constant, where)
                         self.assertIn(right.value, (None, True, False), where)
+            if isinstance(node, ast.BinOp) and isinstance(node.op, ast.Pow):
+                self.assertIsInstance(node.right, ast.Constant, where)
+                self.assertIn(node.right.value, range(65), where)
+            if isinstance(node, ast.AugAssign):
+                self.assertNotIsInstance(node.op, ast.Pow, where)
             if isinstance(node, ast.Raise) and node.exc is not None:
                 self.assertIsInstance(node.exc, ast.Call, where)
             if isinstance(node, ast.ExceptHandler):

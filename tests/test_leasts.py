@@ -292,8 +292,8 @@ class ShowsNone(unittest.TestCase):
 
     def test_some_lists_of_greater_machines(self):
         for seed in range(40):
-            machine = some_machine(seed, ONE, rooms=4, share=4)
-            machine = machine[:4] + ((), (3,))[seed % 2 : seed % 2 + 1] + machine[5:]
+            machine = some_machine(seed, ONE, rooms=3, share=4)
+            machine = machine[:4] + (() if seed % 2 else (2,),) + machine[5:]
             pairs = sorted(plain_leasts(machine))
             self.told(machine, pairs, plain_shows_none(machine, pairs))
             for at in range(len(pairs)):

@@ -9,6 +9,8 @@ from echohall.tellings import is_telling, kind_of, machine_by, telling
 from echohall.within import alike
 from tests.helps import (
     BARE,
+    EVEN_TOLD,
+    NAMED_TOLD,
     ONE,
     TWO,
     WINDING,
@@ -31,14 +33,6 @@ from tests.helps import (
 
 # An even number of plains and no pairs.
 EVEN = (ONE, 2, 0, (0,), (0,), (("plain", 0, "b", 1), ("plain", 1, "b", 0)))
-EVEN_TOLD = (
-    ONE,
-    ((), ("b",), ("a", "c")),
-    (0,),
-    (1,),
-    ((0, 1, 2), (1, 0, 2), (2, 2, 2)),
-    (((2, 2, 2),),),
-)
 # Pairs named alike: z with y, up with down; plains anywhere.
 NAMED = (
     TWO,
@@ -54,14 +48,6 @@ NAMED = (
         ("plain", 0, "dot", 0),
         ("plain", 0, "m", 0),
     ),
-)
-NAMED_TOLD = (
-    TWO,
-    ((), ("z", "down")),
-    (0,),
-    (0, 0),
-    ((0, 1), (1, 1)),
-    (((0, 1), (1, 1)), ((1, 1), (0, 1))),
 )
 # How deep it is, up to two: no plains.
 DEEP = (
