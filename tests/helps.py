@@ -278,6 +278,19 @@ def machine_of_plains(sheet, sizes, more):
     return (sheet, last + 1, 0, (0,), tuple(sorted(lasts)), tuple(sorted(moves)))
 
 
+def machine_of_400(more):
+    """Lets by one word alone, of 400 letters, or of 401 with one plain more at its end."""
+    # From the room k to 0 a word of 2 ** (k + 1) - 2 letters; from 8 to 12 four of these, each in a pair.
+    moves = []
+    for k in range(1, 8):
+        moves += [("open", k, "a", k, k - 1), ("close", 0, k, "c", k - 1)]
+    for at, k in enumerate((7, 6, 2, 2)):
+        moves += [("open", 8 + at, "a", 8 + at, k), ("close", 0, 8 + at, "c", 9 + at)]
+    if more:
+        moves.append(("plain", 12, "b", 13))
+    return (ONE, 12 + 1 + more, 12, (8,), (12 + more,), tuple(sorted(moves)))
+
+
 # A machine with few moves, between whose rooms the least words have hundreds of letters.
 WINDING = (
     ONE,

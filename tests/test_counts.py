@@ -41,6 +41,18 @@ def one_way_machines():
     return found
 
 
+def even_parts(sheet, n):
+    """How many shut words of n letters have an even number of plains and pairs that nothing stands around."""
+    even, odd = [1], [0]
+    for size in range(1, n + 1):
+        parts = {1: len(sheet[1])}
+        for more in range(2, size + 1):
+            parts[more] = parts.get(more, 0) + len(sheet[0]) * len(sheet[2]) * how_many_shut(sheet, more - 2)
+        even.append(sum(parts[more] * odd[size - more] for more in parts))
+        odd.append(sum(parts[more] * even[size - more] for more in parts))
+    return even[n]
+
+
 class HowMany(unittest.TestCase):
     def test_by_hand(self):
         self.assertEqual([kept(self, how_many, EVEN, n) for n in range(6)], [1, 0, 1, 0, 1, 0])
@@ -66,6 +78,21 @@ class HowMany(unittest.TestCase):
         self.assertEqual(how_many(machine, 60), how_many_shut(four, 60))
         ring = (four, 6, 0, (0,), (0,), tuple(sorted(("plain", p, b, (p + 1) % 6) for p in range(6) for b in four[1])))
         self.assertEqual(how_many(ring, 60), 4**60)
+
+    def test_60_letters_of_lopsided_sheets(self):
+        letters = [sign * many for sign in "abc" for many in range(1, 5)]
+        for opens, plains, closes in ((1, 4, 1), (4, 0, 1), (1, 0, 4), (4, 1, 1), (1, 1, 4)):
+            sheet = (tuple(letters[:opens]), tuple(letters[4 : 4 + plains]), tuple(letters[8 : 8 + closes]))
+            # Two rooms, so that the one's counts would be seen if they ran over into the other's.
+            moves = []
+            for p in range(2):
+                moves += [("open", p, a, p, 0) for a in sheet[0]] + [("plain", p, b, 1 - p) for b in sheet[1]]
+                moves += [("close", p, m, c, 1 - m) for m in range(2) for c in sheet[2]]
+            moves = tuple(sorted(moves))
+            told = [how_many((sheet, 2, 2, (0,), (last,), moves), 60) for last in range(2)]
+            self.assertEqual(sum(told), how_many_shut(sheet, 60))
+            # Each plain and each pair changes the room, so the parts beside one another are counted by twos.
+            self.assertEqual(told[0], even_parts(sheet, 60))
 
     def test_with_the_turned_machine_all_words(self):
         for machine in one_way_machines():

@@ -114,6 +114,8 @@ class IsGreat(unittest.TestCase):
             ("wrap", 1, "a", B, "c", 1),
             ("wrap", "a", B, "c"),
             ("wrap", 1, B, "a", "c"),
+            ("unwrap", 1, "a", B, "c"),
+            ("again", 1, "a", B, "c"),
             ("Word", ()),
             ("words", ()),
             (None, ()),

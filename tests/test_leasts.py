@@ -12,6 +12,7 @@ from tests.helps import (
     all_moves,
     in_order,
     kept,
+    machine_of_400,
     machine_of_plains,
     plain_leasts,
     plain_lets,
@@ -142,6 +143,23 @@ class LeastWord(unittest.TestCase):
         self.assertEqual(least_word(machine), ("word", ["b"] * 400))
         self.assertEqual(refused(self, TooLong, least_word, machine_of_plains(ONE, [401], None)).size, 401)
 
+    def test_too_long_by_several_ways_of_one_size(self):
+        plains = (("plain", 0, "b", 1), ("plain", 0, "b", 2), ("plain", 1, "b", 3), ("plain", 2, "b", 3))
+        pairs = (
+            ("close", 1, 0, "down", 3),
+            ("close", 1, 0, "y", 3),
+            ("open", 0, "up", 0, 1),
+            ("open", 0, "z", 0, 1),
+        )
+        for machine, word in (
+            ((ONE, 4, 1, (0,), (3,), plains), ["b", "b"]),
+            ((TWO, 4, 1, (0,), (3,), pairs), ["z", "y"]),
+        ):
+            for function in (least_word, least_between):
+                self.assertEqual(refused(self, TooLong, function, machine, 1).size, 2)
+            self.assertEqual(least_word(machine, 2), ("word", word))
+            self.assertEqual(least_between(machine, 2)[(0, 3)], word)
+
     def test_sizes_too_great_to_be_written(self):
         # Each room's way to the last one holds that of the room below it twice.
         moves = []
@@ -211,6 +229,13 @@ class LeastBetween(unittest.TestCase):
             self.assertEqual(refused(self, TooLong, least_between, machine, most).size, 5)
         # Whether rooms are first or last says nothing here.
         self.assertEqual(refused(self, TooLong, least_between, machine[:4] + ((),) + machine[5:], 4).size, 5)
+
+    def test_without_a_most_it_is_400(self):
+        machine = machine_of_400(0)
+        told = least_between(machine)
+        self.assertEqual(len(told[(8, 12)]), 400)
+        self.assertEqual(told, plain_leasts(machine))
+        self.assertEqual(refused(self, TooLong, least_between, machine_of_400(1)).size, 401)
 
     def test_what_is_told_is_the_askers_own(self):
         machine = machine_of_plains(ONE, [1], None)

@@ -21,6 +21,7 @@ from tests.helps import (
     is_shaped,
     kept,
     long_word,
+    machine_of_400,
     machine_of_plains,
     opens_left,
     plain_lets,
@@ -320,6 +321,13 @@ class Telling(unittest.TestCase):
         moves = (("plain", 0, "b", 1), ("plain", 1, "b", 2), ("plain", 2, "b", 3), ("plain", 3, "b", 3))
         self.assertEqual(telling((ONE, 4, 0, (0,), (0,), moves), 60, 1)[1], ((), ("b",)))
 
+    def test_without_a_most_it_is_400(self):
+        told = telling(machine_of_400(0), 60)
+        self.assertEqual(max(len(word) for word in told[1]), 400)
+        self.assertEqual([len(told[1][kind]) for kind in told[2]], [400])
+        self.assertTrue(plain_lets(machine_of_400(0), told[1][told[2][0]]))
+        self.assertEqual(refused(self, TooLong, telling, machine_of_400(1), 60).size, 401)
+
     def test_too_many_goes_ahead_of_too_long(self):
         machine = machine_of_plains(ONE, [5], None)
         refused(self, TooMany, telling, machine, 6, 1)
@@ -524,6 +532,10 @@ class IsTelling(unittest.TestCase):
             self.told((sheet,) + EVEN_TOLD[1:], False)
         renamed = (("x",), ("y",), ("z",))
         self.told((renamed, ((), ("y",), ("x", "z"))) + EVEN_TOLD[2:], True)
+
+    def test_no_kinds(self):
+        self.told((BARE, (), (), (), (), (((),),)), False)
+        self.told((ONE, (), (), (), (), (((),),)), False)
 
     def test_eight_and_nine_kinds(self):
         for most, many, good in ((5, 7, True), (6, 8, True), (7, 9, False), (14, 16, False)):

@@ -11,6 +11,7 @@ from tests.helps import (
     all_moves,
     in_order,
     kept,
+    machine_of_400,
     machine_of_plains,
     plain_lets,
     plain_stretch,
@@ -160,6 +161,7 @@ class Within(unittest.TestCase):
         refused(self, TooMany, within, machine_of_plains(ONE, [5], None), EVERY)
         one = (ONE, 6, 0, (0,), (), machine_of_plains(ONE, [4], None)[5])
         self.assertEqual(len(within(one, EVERY)[1]), 16)
+        refused(self, TooMany, within, (ONE, 7) + one[2:], EVERY)
 
     def test_triples_of_all_rooms_count(self):
         # No first room leads to those that have the moves.
@@ -183,6 +185,14 @@ class Within(unittest.TestCase):
         self.assertEqual((kind, len(word)), ("word", 292))
         self.assertTrue(plain_lets(machine, word))
         self.assertEqual(refused(self, TooLong, within, WINDING, nothing, 60).size, 1002)
+
+    def test_without_a_most_it_is_400(self):
+        nothing = (ONE, 1, 1, (0,), (), tuple(all_moves(ONE, 1, 1)))
+        for function in (within, alike):
+            kind, word = function(machine_of_400(0), nothing, 60)
+            self.assertEqual((kind, len(word)), ("word", 400))
+            self.assertTrue(plain_lets(machine_of_400(0), word))
+            self.assertEqual(refused(self, TooLong, function, machine_of_400(1), nothing, 60).size, 401)
 
     def test_too_many_goes_ahead_of_too_long(self):
         one = machine_of_plains(ONE, [5], None)
@@ -285,6 +295,8 @@ class Alike(unittest.TestCase):
         one = (ONE, 6, 0, (0,), (4,), machine_of_plains(ONE, [4], None)[5])
         self.assertEqual(len(within(one, EVERY, 60)[1]), 16)
         self.assertEqual(alike(one, EVERY), ("word", []))
+        refused(self, TooMany, alike, (ONE, 7) + one[2:], EVERY)
+        refused(self, TooMany, alike, EVERY, (ONE, 7) + one[2:])
         refused(self, TooMany, alike, machine_of_plains(ONE, [5], None), EVERY)
         refused(self, TooMany, alike, EVERY, machine_of_plains(ONE, [5], None))
 
@@ -299,6 +311,10 @@ class Alike(unittest.TestCase):
         other = machine_of_plains(ONE, [0, 4], None)
         self.assertEqual(refused(self, TooLong, alike, one, other, 60, 2).size, 3)
         self.assertEqual(refused(self, TooLong, alike, other, one, 60, 2).size, 3)
+        # Both ways too long by as many letters.
+        pair = (ONE, 3, 1, (0,), (2,), (("close", 1, 0, "c", 2), ("open", 0, "a", 0, 1)))
+        self.assertEqual(refused(self, TooLong, alike, machine_of_plains(ONE, [2], None), pair, 60, 1).size, 2)
+        self.assertEqual(alike(machine_of_plains(ONE, [2], None), pair, 60, 2), ("word", ["a", "c"]))
 
     def test_what_is_told_is_the_askers_own(self):
         told = alike(SOME, SOME)
@@ -356,7 +372,8 @@ class ShowsWithin(unittest.TestCase):
     def test_rooms_that_there_arent(self):
         one, other = self.ONE_SIDE, self.OTHER_SIDE
         for wrong in (2, -1, 10**40, -(10**40)):
-            for triple in ((wrong, 0, ((0, 1),)), (1, wrong, ((0, 1),)), (wrong, wrong, self.SAME)):
+            # From 1 no move leads on, so nothing but the room is wrong with the first.
+            for triple in ((wrong, 1, ((0, 1),)), (1, wrong, ((0, 1),)), (wrong, wrong, self.SAME)):
                 self.told(one, other, self.SPAN + [triple], False)
         for wrong in (3, -1, 10**40, -(10**40)):
             for pair in ((wrong, 1), (1, wrong)):
