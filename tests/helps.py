@@ -3,6 +3,9 @@
 import copy
 import random
 
+from echohall.errors import TooMany
+from echohall.oneway import one_way
+
 ONE = (("a",), ("b",), ("c",))
 # The order of this sheet is not that of the alphabet.
 TWO = (("z", "up"), ("m", "dot"), ("y", "down"))
@@ -402,3 +405,16 @@ def how_many_by_depth(sheet, n, deep):
                     behind[depth + more] = behind.get(depth + more, 0) + many * ways
         now = behind
     return now.get(0, 0)
+
+
+def one_way_machines():
+    """One-way machines of three sheets, told of machines made by seeds."""
+    found = []
+    for seed in range(45):
+        sheet = (ONE, BARE, TWO)[seed % 3]
+        machine = some_machine(seed, sheet, rooms=2 + seed % 2, marks=1 + seed % 2, share=2 + seed % 3)
+        try:
+            found.append(one_way(machine, 20)[0])
+        except TooMany:
+            continue
+    return found

@@ -4,7 +4,6 @@ from echohall.counts import how_many, kinds_counted, within_depth
 from echohall.errors import NoOneWay, TooMany
 from echohall.machines import is_one_way
 from echohall.nests import depth_of
-from echohall.oneway import one_way
 from echohall.put import turned
 from echohall.tellings import kind_of, machine_by, telling
 from tests.helps import (
@@ -19,6 +18,7 @@ from tests.helps import (
     how_many_shut,
     kept,
     machine_of_plains,
+    one_way_machines,
     plain_lets,
     refused,
     shut_words,
@@ -27,18 +27,6 @@ from tests.helps import (
 
 EVERY = {sheet: (sheet, 1, 1, (0,), (0,), tuple(all_moves(sheet, 1, 1))) for sheet in (ONE, BARE, TWO)}
 EVEN = (ONE, 2, 0, (0,), (0,), (("plain", 0, "b", 1), ("plain", 1, "b", 0)))
-
-
-def one_way_machines():
-    found = []
-    for seed in range(45):
-        sheet = (ONE, BARE, TWO)[seed % 3]
-        machine = some_machine(seed, sheet, rooms=2 + seed % 2, marks=1 + seed % 2, share=2 + seed % 3)
-        try:
-            found.append(one_way(machine, 20)[0])
-        except TooMany:
-            continue
-    return found
 
 
 def even_parts(sheet, n):
