@@ -26,11 +26,19 @@ def least_between(machine, most=400):
     return {(p, q): letters_by(machine[0], grown.words[(p, q, same)]) for p, q, same in sorted(grown.sizes)}
 
 
-def shows_none(machine, pairs):
-    if not all(is_below(p, machine[1]) and is_below(q, machine[1]) for p, q in pairs):
-        return False
-    if any(p in machine[3] and q in machine[4] for p, q in pairs):
+def are_pairs_of_rooms(machine, pairs):
+    return all(is_below(p, machine[1]) and is_below(q, machine[1]) for p, q in pairs)
+
+
+def is_reach(machine, pairs):
+    if not are_pairs_of_rooms(machine, pairs):
         return False
     rules = pair_rules(machine)
     same = rules.stretches.of_none()
     return rules.are_closed([(p, q, same) for p, q in pairs])
+
+
+def shows_none(machine, pairs):
+    if any(p in machine[3] and q in machine[4] for p, q in pairs):
+        return False
+    return is_reach(machine, pairs)

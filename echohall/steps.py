@@ -96,10 +96,13 @@ def around(steps, a, inner, c):
     return onward
 
 
-def behind_close(outer, onward):
-    """Outer are the pairs ahead of the open, onward what leads around from there."""
+def led_onward(pairs, onward):
+    """All (o, q) for (o, p) among the pairs and a way from p on to q; onward has such q as bits, by p.
+
+    At a close the pairs are those ahead of its open, and onward is what leads around from there.
+    """
     rows = {}
-    for o, p in outer:
+    for o, p in pairs:
         add_bits(rows, o, onward.get(p, 0))
     return spread(rows)
 
@@ -122,4 +125,4 @@ def pairs_behind(steps, word, told, lists, place):
     if is_begin(told, place):
         return behind_open(steps, lists[place], letter)
     start = told[place]
-    return behind_close(lists[start], around(steps, word[start], lists[place], letter))
+    return led_onward(lists[start], around(steps, word[start], lists[place], letter))

@@ -41,19 +41,24 @@ def configs(machine, letters):
     """All (room, pile) to which walks lead, the pile of (mark, room behind the open), first room below."""
     now = {(p, ((None, p),)) for p in machine[3]}
     for letter in letters:
-        behind = set()
-        for room, pile in now:
-            for move in machine[5]:
-                if move[1] != room:
-                    continue
-                if move[0] == "plain" and move[2] == letter:
-                    behind.add((move[3], pile))
-                elif move[0] == "open" and move[2] == letter:
-                    behind.add((move[4], pile + ((move[3], move[4]),)))
-                elif move[0] == "close" and move[3] == letter and pile[-1][0] == move[2]:
-                    behind.add((move[4], pile[:-1]))
-        now = behind
+        now = configs_behind(machine, now, letter)
     return now
+
+
+def configs_behind(machine, now, letter):
+    """All (room, pile) to which a letter leads from these."""
+    behind = set()
+    for room, pile in now:
+        for move in machine[5]:
+            if move[1] != room:
+                continue
+            if move[0] == "plain" and move[2] == letter:
+                behind.add((move[3], pile))
+            elif move[0] == "open" and move[2] == letter:
+                behind.add((move[4], pile + ((move[3], move[4]),)))
+            elif move[0] == "close" and move[3] == letter and pile[-1][0] == move[2]:
+                behind.add((move[4], pile[:-1]))
+    return behind
 
 
 def plain_lets(machine, word):
@@ -418,3 +423,70 @@ def one_way_machines():
         except TooMany:
             continue
     return found
+
+
+def plain_rest(machine, letters, most):
+    """The least rest of at most so many letters, found by leading on all piles; None where there is none so short."""
+    sheet, lasts = machine[0], machine[4]
+    order = sheet[0] + sheet[1] + sheet[2]
+    now = [((), configs(machine, letters))]
+    for size in range(most + 1):
+        for word, found in now:
+            if any(len(pile) == 1 and room in lasts for room, pile in found):
+                return list(word)
+        behind, seen = [], set()
+        for word, found in now:
+            for letter in order:
+                led = configs_behind(machine, found, letter)
+                led = frozenset(config for config in led if len(config[1]) - 1 <= most - size - 1)
+                if led and led not in seen:
+                    seen.add(led)
+                    behind.append((word + (letter,), led))
+        now = behind
+    return None
+
+
+def plain_shows_loss(machine, letters, loss):
+    """Point 31, word for word."""
+    sheet, rooms, marks, firsts, lasts, moves = machine
+    pairs, levels = loss
+    inside = range(rooms)
+    if not all(p in inside and q in inside for row in [pairs] + levels for p, q in row):
+        return False
+    if not plain_is_reach(machine, pairs):
+        return False
+    waiting = []
+    for place, letter in enumerate(letters):
+        if letter in sheet[0]:
+            waiting.append(place)
+        elif letter in sheet[2]:
+            waiting.pop()
+    if len(levels) != len(waiting) + 1:
+        return False
+    holds = plain_holds(machine, letters)
+    if any((o, s) not in levels[0] for o, p in holds for q, s in pairs if q == p):
+        return False
+    opens = [move for move in moves if move[0] == "open"]
+    closes = [move for move in moves if move[0] == "close"]
+    for here, behind, place in zip(levels, levels[1:], waiting[::-1]):
+        holds = plain_holds(machine, letters[:place])
+        for _, p, a, m, o in opens:
+            for _, q, n, c, r in closes:
+                if a == letters[place] and m == n and (o, q) in here:
+                    wanted = [(x, s) for x, y in holds if y == p for t, s in pairs if t == r]
+                    if any(pair not in behind for pair in wanted):
+                        return False
+    return not any(q in lasts for o, q in levels[-1])
+
+
+def plain_is_reach(machine, pairs):
+    """Point 14, word for word."""
+    sheet, rooms, marks, firsts, lasts, moves = machine
+    wanted = [(p, p) for p in range(rooms)]
+    for p, q in pairs:
+        wanted += [(p, move[3]) for move in moves if move[0] == "plain" and move[1] == q]
+        for _, x, a, m, r in [move for move in moves if move[0] == "open" and move[1] == q]:
+            for _, s, n, c, t in [move for move in moves if move[0] == "close"]:
+                if m == n and (r, s) in pairs:
+                    wanted.append((p, t))
+    return all(pair in pairs for pair in wanted)

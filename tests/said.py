@@ -83,3 +83,43 @@ def nested(head, many, saying):
     for _ in range(many):
         saying = (head, saying)
     return saying
+
+
+def plain_look(sheet, word, saying):
+    """Point 29: what is so at the last letter, at the last place of the level, and at the open around it."""
+
+    def so_at(place):
+        return None if place is None else tuple(plain_truth(sheet, word, part, place) for part in all_within(saying))
+
+    waiting = []
+    for place, letter in enumerate(word):
+        if letter in sheet[0]:
+            waiting.append(place)
+        elif letter in sheet[2]:
+            waiting.pop()
+    around = waiting[-1] if waiting else None
+    beside = [place for place in range(len(word)) if plain_holder(sheet, word, place) == around]
+    return (so_at(len(word) - 1 if word else None), so_at(beside[-1] if beside else None), so_at(around))
+
+
+def plain_looks(sheet, saying, most):
+    """All looks behind letters with no bare close, of at most so many letters.
+
+    Letters behind which all looks, from the innermost level to the outermost, were seen already aren't gone on with.
+    """
+    found, seen = set(), set()
+    now = [((), ())]
+    for size in range(most + 1):
+        behind = []
+        for word, pile in now:
+            look = plain_look(sheet, word, saying)
+            found.add(look)
+            if (look, pile) in seen:
+                continue
+            seen.add((look, pile))
+            behind += [(word + (a,), pile + (look[2],)) for a in sheet[0]]
+            behind += [(word + (b,), pile) for b in sheet[1]]
+            if pile:
+                behind += [(word + (c,), pile[:-1]) for c in sheet[2]]
+        now = behind
+    return found
