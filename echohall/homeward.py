@@ -11,6 +11,7 @@ from echohall.growth import Growth
 from echohall.leasts import pair_rules
 from echohall.signs import order_of
 from echohall.steps import behind_open, has_bit, rooms_in
+from echohall.stretches import led_by
 
 
 class Homeward:
@@ -45,24 +46,39 @@ class Homeward:
     def inner(self, opening, table):
         """The table of a level, by its opening and the table of the level around it."""
         a, outer = opening
-        told = {}
+        above = [0] * self.machine[1]
+        for x, p in outer:
+            above[p] = above[p] | 1 << x
+        rests, told = {}, {}
         for o, same in behind_open(self.steps, outer, a):
-            ends = self.ends_from(self.steps.into(a, o), outer, table)
-            for key, least in self.with_words([o], ends).items():
-                told[key] = least
+            laid = {m: led_by(above, rooms_in(rooms)) for m, rooms in self.steps.into(a, o).items()}
+            for bases in laid.values():
+                # Many rooms and marks go with the same bases.
+                if bases not in rests:
+                    rests[bases] = self.rests_on(bases, table)
+            ends = self.ends_from({m: rests[bases] for m, bases in laid.items()})
+            for pair, least in self.with_words([o], ends).items():
+                told[pair] = least
         return told
 
-    def ends_from(self, openers, outer, table):
-        """For each room the least that begins with a close there, with one of the marks that the openers lay."""
-        behind = {m: rests_behind(rooms, outer, table) for m, rooms in openers.items()}
+    def rests_on(self, bases, table):
+        """For each room r the least of the rests from (x, r) on, for all x that are bits of the bases."""
+        ways = {}
+        for (x, r), (size, word) in table.items():
+            if has_bit(bases, x):
+                ways.setdefault(r, []).append((size, (), word))
+        return {r: least_way(row, self.most) for r, row in ways.items()}
+
+    def ends_from(self, rests):
+        """For each room the least that begins with a close there; the rests behind it are told by the mark it takes."""
         ends = {}
         for q in range(self.machine[1]):
             ways = []
             for c in self.machine[0][2]:
                 for m, rooms in self.steps.by_close(q, c).items():
-                    rests = behind.get(m, {})
-                    for r in rooms_in(rooms):
-                        ways += [(1 + size, (self.order[c],), word) for size, word in rests.get(r, [])]
+                    behind = rests.get(m, {})
+                    found = [behind[r] for r in rooms_in(rooms) if r in behind]
+                    ways += [(1 + size, (self.order[c],), word) for size, word in found]
             if ways:
                 ends[q] = least_way(ways, self.most)
         return ends
@@ -71,16 +87,6 @@ class Homeward:
         """(size, rest) from these holds on; None where there is none."""
         ways = [(table[pair][0], (), table[pair][1]) for pair in holds if pair in table]
         return least_way(ways, self.most) if ways else None
-
-
-def rests_behind(rooms, outer, table):
-    """For each room r the rests from (x, r) on, for all (x, p) among the outer holds with p one of these rooms."""
-    bases = {x: True for x, p in outer if has_bit(rooms, p)}
-    found = {}
-    for (x, r), least in table.items():
-        if x in bases:
-            found.setdefault(r, []).append(least)
-    return found
 
 
 def least_way(ways, most):

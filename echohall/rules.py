@@ -2,6 +2,7 @@
 
 from echohall.courses import CourseGrowth, Courses
 from echohall.growth import need_short
+from echohall.leasts import are_pairs_of_rooms
 from echohall.machines import is_below, is_rising
 from echohall.put import need_one_sheet
 
@@ -30,7 +31,7 @@ def is_course(book, rule, thing):
     errand, row, pairs = thing
     if not is_below(errand, len(book[1])) or not is_below(row, len(book[1][errand][1])):
         return False
-    return all(is_below(o, rule[1]) and is_below(p, rule[1]) for o, p in pairs) and is_rising(pairs)
+    return are_pairs_of_rooms(rule, pairs) and is_rising(pairs)
 
 
 def shows_keeps(book, rule, table):

@@ -31,7 +31,7 @@ class Watch:
 
     def forget(self):
         """Keep no table of a level that isn't begun any more."""
-        del self.tables[self.deep() + 1 :]
+        self.tables = self.tables[: self.deep() + 1]
 
     def heard(self):
         return list(self.trail.letters)

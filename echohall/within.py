@@ -1,6 +1,7 @@
 """Two machines held against one another: within, alike, and the papers that show it."""
 
 from echohall.growth import Growth, letters_by, need_short
+from echohall.leasts import are_pairs_of_rooms
 from echohall.machines import is_below, is_rising
 from echohall.put import need_one_sheet
 from echohall.triples import Triples
@@ -56,7 +57,7 @@ def is_triple(one, other, thing):
     p, q, pairs = thing
     if not is_below(p, one[1]) or not is_below(q, one[1]):
         return False
-    return all(is_below(x, other[1]) and is_below(y, other[1]) for x, y in pairs) and is_rising(pairs)
+    return are_pairs_of_rooms(other, pairs) and is_rising(pairs)
 
 
 def shows_within(one, other, span):

@@ -5,6 +5,7 @@ import random
 
 from echohall.errors import TooMany
 from echohall.oneway import one_way
+from echohall.watch import Watch
 
 ONE = (("a",), ("b",), ("c",))
 # The order of this sheet is not that of the alphabet.
@@ -490,3 +491,11 @@ def plain_is_reach(machine, pairs):
                 if m == n and (r, s) in pairs:
                     wanted.append((p, t))
     return all(pair in pairs for pair in wanted)
+
+
+def watch_of(machine, letters):
+    """A watch that has heard these letters."""
+    watch = Watch(machine)
+    for letter in letters:
+        watch.hear(letter)
+    return watch

@@ -2,7 +2,6 @@ import unittest
 
 from echohall.errors import NoLetter, NotShut
 from echohall.losses import shows_loss
-from echohall.watch import Watch
 from tests.helps import (
     BARE,
     ONE,
@@ -16,6 +15,7 @@ from tests.helps import (
     plain_shows_loss,
     refused,
     some_machine,
+    watch_of,
 )
 
 EVERY = (ONE, 1, 1, (0,), (0,), tuple(all_moves(ONE, 1, 1)))
@@ -35,13 +35,6 @@ ROW = (
         ("plain", 1, "b", 2),
     ),
 )
-
-
-def watch_of(machine, letters):
-    watch = Watch(machine)
-    for letter in letters:
-        watch.hear(letter)
-    return watch
 
 
 def some_losses(most_opens=3):

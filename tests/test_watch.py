@@ -27,6 +27,7 @@ from tests.helps import (
     plain_shows_loss,
     refused,
     some_machine,
+    watch_of,
     word_key,
 )
 
@@ -34,13 +35,6 @@ EVERY = {sheet: (sheet, 1, 1, (0,), (0,), tuple(all_moves(sheet, 1, 1))) for she
 EVEN = (ONE, 2, 0, (0,), (0,), (("plain", 0, "b", 1), ("plain", 1, "b", 0)))
 # An open, perhaps plains, and the close that answers it.
 PAIR = (ONE, 3, 1, (0,), (2,), (("close", 1, 0, "c", 2), ("open", 0, "a", 0, 1), ("plain", 1, "b", 1)))
-
-
-def watch_of(machine, letters):
-    watch = Watch(machine)
-    for letter in letters:
-        watch.hear(letter)
-    return watch
 
 
 class Watches(unittest.TestCase):
