@@ -232,6 +232,24 @@ class Keeps(unittest.TestCase):
         self.assertEqual(refused(self, TooLong, keeps, two, rule, 60, 111).size, 112)
         self.assertEqual(keeps(two, rule, 60, 112), told)
 
+    def test_400_and_401_letters(self):
+        # Each errand asks the next one so often: 4 * (2 + 7 * (2 + 3 * (2 + 2))) letters, or one plain more.
+        def asks(many, other, more):
+            rows = [("ask", (other,), (("c", at + 1),)) for at in range(many)]
+            return ("a", tuple(rows + [("say", "b", (many + 1,))] * more + [("back", "c")]))
+
+        last = ("a", (("say", "b", (1,)), ("say", "b", (2,)), ("back", "c")))
+        for more in range(2):
+            book = (ONE, (asks(4, 1, more), asks(7, 2, 0), asks(3, 3, 0), last))
+            self.assertEqual(refused(self, TooLong, keeps, book, NO_WORD, 60, 399).size, 400 + more)
+            if more:
+                self.assertEqual(refused(self, TooLong, keeps, book, NO_WORD, 60).size, 401)
+            else:
+                told = keeps(book, NO_WORD, 60)
+                self.assertEqual(told, keeps(book, NO_WORD, 60, 400))
+                word, over = run_of(book, told[1])
+                self.assertEqual((len(word), over), (400, True))
+
     def test_no_sheet(self):
         refused(self, NoSheet, keeps, CALLER, EVERY[TWO])
         refused(self, NoSheet, keeps, CALLER, EVERY[BARE], 1, 1)
